@@ -373,3 +373,51 @@ func TestAddTellsOfTheFirstFirst(t *testing.T) {
 		}
 	}
 }
+
+func checkSlope(t *testing.T, a, b api.Spot, want int, wrong api.Errno) {
+	t.Helper()
+	if got, err := Slope(a, b); got != want || plain.Told(err) != wrong {
+		t.Errorf("Slope(%v, %v) is %d, %v, want %d, %v", a, b, got, err, want, wrong)
+	}
+}
+
+func TestSlopeIsThatOfTheLine(t *testing.T) {
+	few := every(67, spots())
+	for _, a := range few {
+		for _, b := range few {
+			sum, err := Add(a, b)
+			if err != nil {
+				t.Fatalf("Add(%v, %v): %v", a, b, err)
+			}
+			if sum.Far {
+				checkSlope(t, a, b, 0, api.ErrNone)
+				continue
+			}
+			m, err := Slope(a, b)
+			if err != nil || m < 0 || m >= api.P || !meets(a, b, api.Spot{X: sum.X, Y: modulo(-sum.Y)}, m) {
+				t.Errorf("Slope(%v, %v) is %d, %v", a, b, m, err)
+			}
+		}
+	}
+}
+
+func TestSlopeOfUprightLines(t *testing.T) {
+	for _, s := range spots() {
+		checkSlope(t, s, api.Spot{X: s.X, Y: modulo(-s.Y)}, 0, api.ErrNone)
+		checkSlope(t, s, far, 0, api.ErrNone)
+		checkSlope(t, far, s, 0, api.ErrNone)
+	}
+	checkSlope(t, far, far, 0, api.ErrNone)
+}
+
+func TestSlopeTellsWhatIsWrong(t *testing.T) {
+	for _, a := range wrongs() {
+		for _, right := range []api.Spot{far, {}, {X: 1014, Y: 542}} {
+			checkSlope(t, a.s, right, 0, a.want)
+			checkSlope(t, right, a.s, 0, a.want)
+		}
+		for _, b := range wrongs() {
+			checkSlope(t, a.s, b.s, 0, a.want)
+		}
+	}
+}
