@@ -538,3 +538,49 @@ func TestVerifyOfTooMuch(t *testing.T) {
 		}
 	}
 }
+
+func TestCheckTellsWhatVerifyTells(t *testing.T) {
+	spots := []api.Spot{far, flat, base, {X: -1}, {X: 1, Far: true}, {Y: 1}}
+	for _, text := range []string{"", "pay 5", full, over} {
+		for _, key := range spots {
+			for _, r := range spots {
+				for _, s := range []int{0, 1, 1012, 1013, -1, math.MaxInt, math.MinInt} {
+					seal := api.Seal{R: r, S: s}
+					_, want := Verify(key, text, seal)
+					if got := Check(key, text, seal); plain.Told(got) != plain.Told(want) {
+						t.Errorf("Check(%v, %d bytes, %v) is %v, want %v", key, len(text), seal, got, want)
+					}
+				}
+			}
+		}
+	}
+}
+
+func TestAnsweredIsToldByPlaces(t *testing.T) {
+	w := newWorld(t)
+	for _, key := range w.some(241) {
+		for _, r := range w.some(67) {
+			for _, text := range []string{"", "pay 5", full} {
+				want := w.row[(w.at[r]+asked(r, key, text)*w.at[key])%api.Whole]
+				if got, err := Answered(key, text, r); got != want || err != nil {
+					t.Errorf("Answered(%v, %q, %v) is %v, %v, want %v", key, text, r, got, err, want)
+				}
+			}
+		}
+	}
+}
+
+func TestAnsweredTellsWhatAskTells(t *testing.T) {
+	spots := []api.Spot{far, base, {X: -1}, {X: 1, Far: true}, {Y: 1}}
+	for _, text := range []string{"", full, over} {
+		for _, key := range spots {
+			for _, r := range spots {
+				_, want := Ask(r, key, text)
+				got, err := Answered(key, text, r)
+				if plain.Told(err) != plain.Told(want) || want != nil && got != (api.Spot{}) {
+					t.Errorf("Answered(%v, %d bytes, %v) is %v, %v, want %v", key, len(text), r, got, err, want)
+				}
+			}
+		}
+	}
+}
